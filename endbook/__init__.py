@@ -1,0 +1,1 @@
+"""Endbook: texts by the order of all their ends."""
