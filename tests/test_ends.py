@@ -1,81 +1,10 @@
 """Points [1] to [3] and the interface of endbook/ends.py."""
 
-import inspect
-import itertools
-import os
 import string
-import subprocess
-import sys
 import unittest
 
 from endbook.ends import ends, shared_ahead
-
-TOP = os.path.dirname(os.path.dirname(os.path.abspath(__file__)))
-
-
-def mixed(length, signs):
-    """A text without a plain pattern, the same on every run."""
-    state = 12345
-    letters = []
-    for step in range(length):
-        state = (state * 1103515245 + 12345) % 2**31
-        letters.append(signs[(state >> 16) % len(signs)])
-    return "".join(letters)
-
-
-def grown(rules, length):
-    """A text with many repeats: each letter written anew by the rules, again and again."""
-    text = "a"
-    while len(text) < length:
-        text = "".join(rules[letter] for letter in text)
-    return text[:length]
-
-
-TEXTS = {
-    "empty": "",
-    "one letter": "a",
-    "one other letter": "z",
-    "two of the same": "aa",
-    "rising two": "ab",
-    "falling two": "ba",
-    "one letter many times": "a" * 300,
-    "last letter many times": "z" * 64,
-    "two letters in turn": "ab" * 60,
-    "two letters in turn, the greater first": "ba" * 60,
-    "two letters, golden": grown({"a": "ab", "b": "a"}, 233),
-    "two letters, even and odd": grown({"a": "ab", "b": "ba"}, 256),
-    "two letters, mixed": mixed(200, "ab"),
-    "three letters in turn": "abc" * 40,
-    "three letters, grown": grown({"a": "abc", "b": "ac", "c": "b"}, 200),
-    "three letters, mixed": mixed(200, "xyz"),
-    "one letter and a greater last one": "a" * 100 + "b",
-    "one letter and a lesser last one": "b" * 100 + "a",
-    "first half twice, short": "abcabc",
-    "first half twice": mixed(90, "abc") * 2,
-    "first half twice, all letters": mixed(120, string.ascii_lowercase) * 2,
-    "forth and back": mixed(80, "ab") + mixed(80, "ab")[::-1],
-    "alphabet up": string.ascii_lowercase,
-    "alphabet down": string.ascii_lowercase[::-1],
-    "alphabet up and down": string.ascii_lowercase + string.ascii_lowercase[::-1],
-    "alphabet down and up": string.ascii_lowercase[::-1] + string.ascii_lowercase,
-    "banana": "banana",
-    "mississippi": "mississippi",
-    "a thousand letters": mixed(1000, string.ascii_lowercase),
-    "a thousand of two letters": mixed(1000, "ab"),
-    "a thousand grown letters": grown({"a": "ab", "b": "a"}, 1000),
-    "a thousand times one letter": "a" * 1000,
-    "first half twice, a thousand": mixed(500, "ab") * 2,
-    "somewhat beyond the bound": mixed(1100, "abc"),
-    "one letter somewhat beyond the bound": "q" * 1100,
-}
-
-
-def short_texts():
-    """Each text of up to eight letters a, b and of up to five letters a, b, c."""
-    for signs, most in (("ab", 8), ("abc", 5)):
-        for length in range(most + 1):
-            for letters in itertools.product(signs, repeat=length):
-                yield "".join(letters)
+from samples import TEXTS, repeated_texts, short_texts
 
 
 def comes_ahead(one, other):
@@ -130,6 +59,10 @@ class TheOrderOfTheEnds(unittest.TestCase):
         for text in short_texts():
             self.assertEqual(ends(text), places_by_sorting(text), text)
 
+    def test_repeats_against_plain_sorting(self):
+        for text in repeated_texts():
+            self.assertEqual(ends(text), places_by_sorting(text), text)
+
     def test_each_place_once(self):
         for name, text in TEXTS.items():
             with self.subTest(name):
@@ -164,58 +97,16 @@ class WhatEndsShareWithTheOneAhead(unittest.TestCase):
         for text in short_texts():
             self.assertEqual(shared_ahead(text), shared_by_counting(text), text)
 
+    def test_repeats_against_counting(self):
+        for text in repeated_texts():
+            self.assertEqual(shared_ahead(text), shared_by_counting(text), text)
+
     def test_nought_for_the_first_and_one_number_an_end(self):
         for name, text in TEXTS.items():
             with self.subTest(name):
                 shared = shared_ahead(text)
                 self.assertEqual(len(shared), len(text))
                 self.assertEqual(shared[:1], [0][: len(text)])
-
-
-class KindsAndCalls(unittest.TestCase):
-    def test_lists_of_whole_numbers(self):
-        for name, text in TEXTS.items():
-            for asked in (ends, shared_ahead):
-                with self.subTest(name, asked=asked.__name__):
-                    answer = asked(text)
-                    self.assertIs(type(answer), list)
-                    self.assertTrue(all(type(number) is int for number in answer))
-
-    def test_the_argument_is_called_text(self):
-        for asked in (ends, shared_ahead):
-            self.assertEqual(list(inspect.signature(asked).parameters), ["text"])
-        self.assertEqual(ends(text="ba"), [1, 0])
-        self.assertEqual(shared_ahead(text="aa"), [0, 1])
-
-    def test_asked_twice_they_answer_the_same(self):
-        first = [(ends(text), shared_ahead(text)) for text in TEXTS.values()]
-        again = [(ends(text), shared_ahead(text)) for text in TEXTS.values()]
-        self.assertEqual(first, again)
-
-    def test_an_answer_that_is_changed_changes_no_later_one(self):
-        for asked in (ends, shared_ahead):
-            for text in ("", "a", "banana"):
-                with self.subTest(text, asked=asked.__name__):
-                    answer = asked(text)
-                    kept = list(answer)
-                    answer.append(99)
-                    answer.reverse()
-                    self.assertEqual(asked(text), kept)
-
-    def test_another_process_answers_the_same(self):
-        # Another hash seed is the one chance that Python itself brings in.
-        text = TEXTS["three letters, mixed"]
-        code = "from endbook.ends import ends, shared_ahead\n" f"print(ends({text!r}), shared_ahead({text!r}))\n"
-        for seed in ("1", "2"):
-            done = subprocess.run(
-                [sys.executable, "-c", code],
-                cwd=TOP,
-                env=dict(os.environ, PYTHONHASHSEED=seed),
-                capture_output=True,
-                text=True,
-                check=True,
-            )
-            self.assertEqual(done.stdout, f"{ends(text)} {shared_ahead(text)}\n")
 
 
 if __name__ == "__main__":

@@ -23,6 +23,16 @@ PYTHONS_METHODS = set(
     isupper items join keys ljust lower lstrip partition pop remove replace reverse rfind rjust rpartition
     rsplit rstrip setdefault split splitlines startswith strip update upper values zfill bit_length""".split()
 )
+# Walked on the spot, not kept (L23).
+WALKED = {"zip", "enumerate", "reversed", "range"}
+KEYWORDS = {
+    "sorted": {"key", "reverse"},
+    "min": {"key", "default"},
+    "max": {"key", "default"},
+    "sum": {"start"},
+    "enumerate": {"start"},
+    "zip": {"strict"},
+}
 CLASS_METHODS = {"__init__", "__eq__", "__repr__", "__str__", "__len__"}
 BARRED_NAMES = set(
     """register mro elements open input version_info with_traceback add_note format format_map attrgetter
@@ -45,7 +55,7 @@ NODES = set(
 def faults(source):
     """What in the source lies outside the rules, as short texts; none where it keeps to them."""
     tree = ast.parse(source)
-    found = faults_of_signs(source) + faults_of_the_top(tree)
+    found = faults_of_signs(source) + faults_of_the_top(tree) + faults_of_locals(tree)
     methods = PYTHONS_METHODS | {"add", "discard", "__init__"}
     methods |= {node.name for node in ast.walk(tree) if isinstance(node, ast.FunctionDef)}
     for node in ast.walk(tree):
@@ -88,6 +98,40 @@ def faults_of_the_top(tree):
     return found
 
 
+def faults_of_locals(tree):
+    """No parameter and no local is called like a class or an import of its file."""
+    kept = {node.name for node in tree.body if isinstance(node, ast.ClassDef)}
+    for node in tree.body:
+        if isinstance(node, ast.ImportFrom):
+            kept |= {alias.asname or alias.name for alias in node.names}
+    bound = {node.arg for node in ast.walk(tree) if isinstance(node, ast.arg)}
+    bound |= {node.id for node in ast.walk(tree) if isinstance(node, ast.Name) and isinstance(node.ctx, ast.Store)}
+    return [f"{name} is bound anew" for name in sorted(kept & bound)]
+
+
+def faults_of_call(node, methods):
+    if isinstance(node.func, ast.Attribute):
+        return [] if node.func.attr in methods else [f"the method {node.func.attr}"]
+    if isinstance(node.func, ast.Name) and node.func.id in PYTHONS_NAMES:
+        given = {keyword.arg for keyword in node.keywords} - KEYWORDS.get(node.func.id, set())
+        return [f"the keyword {keyword} at {node.func.id}" for keyword in sorted(given)]
+    return []
+
+
+def faults_of_is(node):
+    """`is` stands beside None, True and False alone."""
+    found = []
+    for operator, side in zip(node.ops, node.comparators):
+        if isinstance(operator, (ast.Is, ast.IsNot)):
+            if not (isinstance(side, ast.Constant) and (side.value is None or isinstance(side.value, bool))):
+                found.append("an is beside something else than None, True and False")
+    return found
+
+
+def is_walked(node):
+    return isinstance(node, ast.Call) and isinstance(node.func, ast.Name) and node.func.id in WALKED
+
+
 def faults_of_node(node, methods):
     found = []
     if node.__class__.__name__ not in NODES:
@@ -108,8 +152,9 @@ def faults_of_node(node, methods):
         if node.attr in BARRED_NAMES or (node.attr.startswith("_") and node.attr != "__init__"):
             found.append(f"the attribute {node.attr}")
     elif isinstance(node, ast.Call):
-        if isinstance(node.func, ast.Attribute) and node.func.attr not in methods:
-            found.append(f"the method {node.func.attr}")
+        found += faults_of_call(node, methods)
+    elif isinstance(node, ast.Compare):
+        found += faults_of_is(node)
     elif isinstance(node, ast.Constant):
         if not (node.value is None or isinstance(node.value, (int, str))):
             found.append(f"the value {node.value!r}")
@@ -150,6 +195,10 @@ def faults_of_statement(node):
         found.append("an else behind a loop")
     if isinstance(node, ast.Assign) and len(node.targets) > 1:
         found.append("more than one target")
+    if isinstance(node, (ast.Assign, ast.Return)) and is_walked(node.value):
+        found.append("kept, and not walked on the spot")
+    if isinstance(node, ast.Set):
+        found.append("a set is kept")
     if isinstance(node, ast.Try) and node.finalbody:
         found.append("a finally")
     if isinstance(node, ast.ExceptHandler) and node.type is None:
@@ -190,6 +239,22 @@ class TheForm(unittest.TestCase):
         source = dict(package_files())["__init__.py"]
         self.assertEqual([node for node in ast.parse(source).body if not isinstance(node, ast.Expr)], [])
 
+    def test_imports_are_from_the_very_file_and_never_round(self):
+        trees = {name[: -len(".py")]: ast.parse(source) for name, source in package_files()}
+        drawn = {name: [] for name in trees}
+        for name, tree in trees.items():
+            for node in tree.body:
+                if isinstance(node, ast.ImportFrom):
+                    source = node.module[len("endbook.") :]
+                    drawn[name].append(source)
+                    defined = {top.name for top in trees[source].body if hasattr(top, "name")}
+                    self.assertLessEqual({alias.name for alias in node.names}, defined, name)
+        while drawn:
+            free = [name for name in drawn if not set(drawn[name]) & set(drawn)]
+            self.assertNotEqual(free, [], "some files draw from one another")
+            for name in free:
+                drawn.pop(name)
+
     def test_what_lies_outside_is_seen(self):
         for source in (
             "import time\n",
@@ -216,6 +281,13 @@ class TheForm(unittest.TestCase):
             "# \u00e4\n",
             "def f():\n\tpass\n",
             "if True:\n    pass\n",
+            "from endbook.ends import ends\n\n\ndef f(ends):\n    return ends\n",
+            "from endbook.errors import NoWord\n\n\ndef f():\n    NoWord = 1\n    return NoWord\n",
+            "def f(a, b):\n    return a is b\n",
+            "def f(a):\n    b = range(a)\n    return list(b)\n",
+            "def f(a):\n    return zip(a, a)\n",
+            "def f(a):\n    return {1, a}\n",
+            "def f(a):\n    return int(a, base=2)\n",
             "# " + "a" * 119 + "\n",
             "# a\n" * 401,
         ):
